@@ -1,0 +1,1 @@
+"""Roles doubled: who of a company plays which roles of a play."""
