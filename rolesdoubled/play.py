@@ -1,11 +1,16 @@
 """The interface: a list of calls on one play is read, and their answers are put into one list."""
 
+from rolesdoubled.castings import cheapest, check, fewest, ill
 from rolesdoubled.stage import Play
 
 BEGINS = 0
 SCENE = 1
 PLAYER = 2
 CLASHES = 3
+CHEAPEST = 4
+FEWEST = 5
+CHECK = 6
+ILL = 7
 
 
 class UnknownCall(ValueError):
@@ -43,26 +48,35 @@ def answers(calls):
     reader = Reader(calls)
     told = []
     while reader.has_more():
-        answer = next_answer(play, reader)
+        first, rows = next_answer(play, reader)
+        answer = joined(first, rows)
         told.append(len(answer))
         told.extend(answer)
     return told
 
 
 def next_answer(play, reader):
-    """Read one call, carry it out on the play, and answer its numbers."""
+    """Read one call and carry it out on the play; the number that it answers first, and the rows behind it."""
     call = reader.read_number()
     if call == BEGINS:
-        return [play.begin(reader.read_row())]
+        return play.begin(reader.read_row()), []
     if call == SCENE:
         minutes = reader.read_number()
-        return [play.add_scene(minutes, reader.read_row())]
+        return play.add_scene(minutes, reader.read_row()), []
     if call == PLAYER:
         wage = reader.read_number()
-        return [play.add_player(wage, reader.read_row())]
+        return play.add_player(wage, reader.read_row()), []
     if call == CLASHES:
         pairs = play.clashes()
-        return joined(len(pairs), pairs)
+        return len(pairs), pairs
+    if call == CHEAPEST:
+        return cheapest(play)
+    if call == FEWEST:
+        return fewest(play)
+    if call == CHECK:
+        return check(play, reader.read_row())
+    if call == ILL:
+        return ill(play, reader.read_number())
     raise UnknownCall(f"no call has the number {call}")
 
 

@@ -26,6 +26,14 @@ class Player:
         self.wage = wage
         self.fees = fees
 
+    def can_play(self, role):
+        """Whether they can play a role."""
+        return self.fees[role] > 0
+
+    def fee_for(self, role):
+        """The fee for a role that they can play."""
+        return self.fees[role] - 1
+
 
 class Play:
     """The minutes to dress, role by role, the scenes and the players."""

@@ -21,6 +21,22 @@ def clashes():
     return [3]
 
 
+def cheapest():
+    return [4]
+
+
+def fewest():
+    return [5]
+
+
+def check(casting):
+    return [6, len(casting)] + casting
+
+
+def ill(number):
+    return [7, number]
+
+
 def ask(*calls):
     """The answer to each call, without how many numbers it has."""
     told = answers([number for call in calls for number in call])
